@@ -82,20 +82,25 @@ func checkWrongFracOfTwo(t *testing.T, a impl.Frac, b impl.Frac) {
 	}
 }
 
+// checkFracOf holds FracOf against math/big; against nothing, if one of the two has too many digits to be a number, whatever it were in lowest terms.
 func checkFracOf(t *testing.T, below bool, top *big.Int, bottom *big.Int) {
 	t.Helper()
+	f, ok := impl.FracOf(below, natOf(top), natOf(bottom))
+	if !fits(top) || !fits(bottom) {
+		checkNoFrac(t, "FracOf, too many digits", f, ok)
+		return
+	}
 	want := rat(top, bottom)
 	if below {
 		want.Neg(want)
 	}
-	f, ok := impl.FracOf(below, natOf(top), natOf(bottom))
 	checkFrac(t, "FracOf", f, ok, want)
 	if ok && !impl.FracOk(f) {
 		t.Errorf("FracOf %v: %v is not ok", want, f)
 	}
 }
 
-// Promise 22: a fraction stays the same if its top and bottom are multiplied by one number that is not 0, however many digits these have then.
+// Promise 22: a fraction stays the same if its top and bottom are multiplied by one number that is not 0, as long as both are numbers then.
 func TestFractionsMultipliedAboveAndBelow(t *testing.T) {
 	factors := []*big.Int{big.NewInt(1), big.NewInt(2), big.NewInt(3), big.NewInt(65535), big.NewInt(65536), big.NewInt(30030), powerOfTwo(64), moved(powerOfTwo(129), -1), powerOfTwo(2048), moved(powerOfTwo(4000), 1), mostNat()}
 	for _, r := range rats() {
@@ -107,7 +112,9 @@ func TestFractionsMultipliedAboveAndBelow(t *testing.T) {
 		for _, factor := range factors {
 			more, less := new(big.Int).Mul(top, factor), new(big.Int).Mul(r.Denom(), factor)
 			f, ok := impl.FracOf(r.Sign() < 0, natOf(more), natOf(less))
-			if !ok || !sameFrac(f, plain) {
+			if !fits(more) || !fits(less) {
+				checkNoFrac(t, "FracOf, too many digits", f, ok)
+			} else if !ok || !sameFrac(f, plain) {
 				t.Errorf("%v, both times %v: %v, %v", r, factor, f, ok)
 			}
 		}
@@ -139,20 +146,19 @@ func TestFractionsOfNought(t *testing.T) {
 	}
 }
 
-// Lowest terms come first, then the limit.
+// What is handed in is asked for its digits as it stands: a list of one too many is no number, also where lowest terms, or a top 0, would make it short.
 func TestFractionsAtTheLimit(t *testing.T) {
 	most, over, three := mostNat(), powerOfTwo(natBits), big.NewInt(3)
 	for _, row := range []struct {
 		top, bottom *big.Int
 		there       bool
 	}{
-		{most, big.NewInt(1), true}, {big.NewInt(1), most, true}, {most, moved(most, -1), true},
+		{most, big.NewInt(1), true}, {big.NewInt(1), most, true}, {most, moved(most, -1), true}, {most, most, true}, {most, three, true}, {three, most, true}, {new(big.Int), most, true},
 		{over, big.NewInt(1), false}, {big.NewInt(1), over, false}, {over, most, false}, {most, over, false},
-		{over, big.NewInt(2), true}, {big.NewInt(2), over, true}, {over, over, true}, {over, big.NewInt(6), true}, {over, three, false},
-		{new(big.Int).Mul(most, three), three, true}, {three, new(big.Int).Mul(most, three), true},
-		{new(big.Int).Mul(over, three), three, false}, {three, new(big.Int).Mul(over, three), false},
-		{new(big.Int).Mul(most, most), most, true}, {new(big.Int).Mul(over, most), most, false}, {new(big.Int).Mul(over, over), new(big.Int).Mul(over, powerOfTwo(4095)), true},
-		{new(big.Int), over, true}, {new(big.Int), moved(over, 1), true},
+		{over, big.NewInt(2), false}, {big.NewInt(2), over, false}, {over, over, false}, {over, big.NewInt(6), false}, {over, three, false},
+		{new(big.Int).Mul(most, three), three, false}, {three, new(big.Int).Mul(most, three), false}, {new(big.Int).Mul(most, most), most, false}, {most, new(big.Int).Mul(most, most), false},
+		{new(big.Int).Mul(over, over), new(big.Int).Mul(over, powerOfTwo(4095)), false}, {new(big.Int).Mul(most, three), new(big.Int).Mul(most, three), false},
+		{new(big.Int), over, false}, {new(big.Int), moved(over, 1), false}, {over, new(big.Int), false},
 	} {
 		for _, below := range []bool{false, true} {
 			checkFracOf(t, below, row.top, row.bottom)
@@ -163,18 +169,11 @@ func TestFractionsAtTheLimit(t *testing.T) {
 	}
 }
 
-// onlyTooLong says whether a list is wrong by its length alone: such a one is asked for in lowest terms first.
-func onlyTooLong(wrong []int) bool { return slices.Equal(natOf(bigOf(wrong)), wrong) }
-
-// Lists that are the digits of nothing make no fraction, in either place.
+// Lists that are no numbers make no fraction, in either place.
 func TestFractionsOfWrongLists(t *testing.T) {
 	for _, wrong := range wrongNats() {
 		for _, good := range [][]int{nil, {1}, {2}, {0, 1}, natOf(mostNat()), wrong} {
 			for _, below := range []bool{false, true} {
-				if onlyTooLong(wrong) {
-					checkFracOf(t, below, bigOf(good), bigOf(wrong))
-					continue
-				}
 				f, ok := impl.FracOf(below, wrong, good)
 				checkNoFrac(t, "FracOf, a wrong top", f, ok)
 				f, ok = impl.FracOf(below, good, wrong)
