@@ -75,15 +75,20 @@ func TestLiteralsOfEachForm(t *testing.T) {
 	}
 }
 
-func TestTextsThatAreNoLiterals(t *testing.T) {
-	for _, text := range []string{
+// noLiterals are texts that break the form of a literal, or a limit, each in a way of its own.
+func noLiterals() []string {
+	return []string{
 		"", "00", "01", "007", "00.5", "01.5", "01e1", ".", ".5", ".e1", "1.", "0.", "1.e1", "1..5", "1.5.5", "1.-5", "1.+5",
 		"e", "e1", "1e", "1e-", "1e+", "1e+1", "1e+0", "1e-0", "1e00", "1e-00", "1e01", "1e-01", "1e001", "1e0123", "1e400 ", "1e401", "1e-401", "1e500", "1e999", "1e-999", "1e1000", "1e-1000", "1e0400", "1e4000",
 		"1E1", "1E0", "1.5E-3", "1e1e1", "1e1.0", "1e.5", "1e--1", "1e-+1", "1ee1", "1e1-", "-1", "-0", "+1", "+0", "-1.5", "- 1",
 		" 1", "1 ", " ", "1 .5", "1. 5", "1 e1", "1e 1", "\t1", "1\n", "\n", "a", "1a", "a1", "0x1", "1_0", "1,5", "1/2", "inf", "nan", "1f", "1d0",
 		"/", ":", "1/", "1:", "1./", "1.:", "1e/", "1e:", "\x00", "1\x00", "\x001", "\xff", "1\xff", "1.\xff", "1e\xff", "١", "1.١", "１", "1．5", "1ｅ1", "é", "1\u0300",
 		strings.Repeat("1", 61), strings.Repeat("0", 60), "0." + strings.Repeat("0", 59), "1" + strings.Repeat("0", 58) + "e1", strings.Repeat("1", 100000), "1." + strings.Repeat("0", 100000),
-	} {
+	}
+}
+
+func TestTextsThatAreNoLiterals(t *testing.T) {
+	for _, text := range noLiterals() {
 		if isLiteral(text) {
 			t.Fatalf("%q is a literal", text)
 		}
