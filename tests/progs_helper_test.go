@@ -116,8 +116,8 @@ func relCode(p impl.Prog, rel impl.ProgRel) int {
 	return nodesCode(p, p.Vars, append(slices.Clone(rel.Left.Nodes), rel.Right.Nodes...))
 }
 
-// firstLoop is the place of the first definition that uses itself, by a table of who uses whom that is closed step by step; -1, if none does.
-func firstLoop(p impl.Prog) int {
+// usesTable tells of each definition, by places, which ones it uses: a table of whose body names whom that is closed step by step.
+func usesTable(p impl.Prog) [][]bool {
 	uses := make([][]bool, len(p.Defs))
 	for at, def := range p.Defs {
 		uses[at] = make([]bool, len(p.Defs))
@@ -134,8 +134,13 @@ func firstLoop(p impl.Prog) int {
 			}
 		}
 	}
-	for at := range uses {
-		if uses[at][at] {
+	return uses
+}
+
+// firstLoop is the place of the first definition that uses itself; -1, if none does.
+func firstLoop(p impl.Prog) int {
+	for at, uses := range usesTable(p) {
+		if uses[at] {
 			return at
 		}
 	}
