@@ -114,7 +114,7 @@ func TestInlinesOfSomeProblems(t *testing.T) {
 	t.Parallel()
 	s := spread{193}
 	fit, beyond := 0, 0
-	for at := range 500 {
+	for at := range 250 {
 		p := someProg(&s, []int{3, 10, 40, 100}[at%4])
 		for _, name := range append(defNames(p), "x", "") {
 			if _, ok := checkInline(t, p, name); ok {
@@ -124,7 +124,7 @@ func TestInlinesOfSomeProblems(t *testing.T) {
 			}
 		}
 	}
-	if fit < 500 || beyond < 500 {
+	if fit < 300 || beyond < 300 {
 		t.Errorf("only %d that fit, and %d beyond the limit", fit, beyond)
 	}
 }
