@@ -1,6 +1,7 @@
 package tests
 
 import (
+	"math"
 	"math/big"
 	"slices"
 	"strconv"
@@ -64,24 +65,24 @@ type spanPad struct {
 	gaps  []impl.HullGap
 }
 
+// spanByWords is what words come to, n being the power of those that raise, some of them the names of spans.
+func spanByWords(width int, n int, words string, named map[string]impl.Span) impl.Span {
+	var stack []impl.Span
+	for _, word := range strings.Fields(words) {
+		if span, isNamed := named[word]; isNamed {
+			stack = append(stack, span)
+			continue
+		}
+		rest := len(stack) - spanWords[word].takes
+		stack = append(stack[:rest], spanWords[word].makes(width, n, stack[rest:]))
+	}
+	return stack[0]
+}
+
 // worth is what words come to at a node.
 func (p *spanPad) worth(at int, words string) impl.Span {
 	node := p.g.Nodes[at]
-	var stack []impl.Span
-	for _, word := range strings.Fields(words) {
-		switch word {
-		case "a":
-			stack = append(stack, p.spans[node.A])
-		case "b":
-			stack = append(stack, p.spans[node.B])
-		case "z":
-			stack = append(stack, p.spans[at])
-		default:
-			rest := len(stack) - spanWords[word].takes
-			stack = append(stack[:rest], spanWords[word].makes(p.width, node.N, stack[rest:]))
-		}
-	}
-	return stack[0]
+	return spanByWords(p.width, node.N, words, map[string]impl.Span{"a": p.spans[node.A], "b": p.spans[node.B], "z": p.spans[at]})
 }
 
 // padOver is what HullForward should tell of a graph and a box that belong together.
@@ -225,6 +226,57 @@ func sureBy(p *spanPad) bool {
 	return isSure
 }
 
+// madeWrong are graphs that are not ok, each by one thing that is changed in one that is: its count of variables, of relations, a node or a relation.
+func madeWrong(base impl.Graph) []impl.Graph {
+	var out []impl.Graph
+	add := func(change func(g *impl.Graph)) {
+		g := copiedGraph(base)
+		change(&g)
+		out = append(out, g)
+	}
+	for _, vars := range []int{-1, 0, base.Vars - 1, base.Vars + 1, 7, math.MaxInt, math.MinInt} {
+		add(func(g *impl.Graph) { g.Vars = vars })
+	}
+	for _, count := range []int{0, 13, 100} {
+		add(func(g *impl.Graph) { g.Rels = slices.Repeat(base.Rels[:1], count) })
+	}
+	for at, own := range base.Nodes {
+		for _, node := range []impl.GraphNode{{}, {Kind: impl.TermCall, N: 1, Text: "f"}, {Kind: impl.TermNeg, A: at}, {Kind: impl.TermNeg, A: at + 1}, {Kind: impl.TermNeg, A: math.MaxInt}, {Kind: impl.TermAdd, A: -1}, {Kind: impl.TermAdd, B: math.MinInt}, {Kind: impl.TermName, N: 7}, {Kind: impl.TermName, N: -1}, {Kind: impl.TermNumber}, {Kind: impl.TermNumber, Text: "x"}, {Kind: impl.TermPow, N: 9}, {Kind: impl.TermPow, N: -1}, {Kind: 14}, {Kind: math.MaxInt}, {Kind: math.MinInt}} {
+			add(func(g *impl.Graph) { g.Nodes[at] = node })
+		}
+		add(func(g *impl.Graph) { g.Nodes = append(g.Nodes, own) })
+	}
+	for at := range base.Rels {
+		for _, rel := range []impl.GraphRel{{}, {Kind: 4}, {Kind: 1, Left: -1}, {Kind: 1, Right: len(base.Nodes)}, {Kind: -1}, {Kind: 1, Left: math.MaxInt}, {Kind: 2, Right: math.MinInt}} {
+			add(func(g *impl.Graph) { g.Rels[at] = rel })
+		}
+	}
+	return out
+}
+
+// checkChanged holds what a check wants of graphs and boxes by chance, of which some belong together and others do not, and tells how many there were of both.
+func checkChanged(t *testing.T, s *spread, count int, some func() impl.Graph, belongs func(t *testing.T, width int, g impl.Graph, b impl.Box) narrowed, apart func(t *testing.T, width int, g impl.Graph, b impl.Box)) (int, int) {
+	t.Helper()
+	good, wrong := 0, 0
+	for at := range count {
+		g := changedGraph(s, some())
+		for _, width := range bothWidths() {
+			b := someBoxOf(s, width, max(0, min(g.Vars, 7)))
+			if at%5 == 0 {
+				b = someBoxOf(s, width, int(s.next()%8))
+			}
+			if belongTogether(width, g, b) {
+				good++
+				belongs(t, width, g, b)
+			} else {
+				wrong++
+				apart(t, width, g, b)
+			}
+		}
+	}
+	return good, wrong
+}
+
 // boundText tells a bound by its value.
 func boundText(width int, ord int) string {
 	return strconv.FormatFloat(valueOf(width, ord), 'g', -1, width)
@@ -288,11 +340,16 @@ func (n narrowed) text(width int) string {
 	return boxText(width, n.box) + "; " + gapText(width, n.gap) + "; " + strconv.FormatBool(n.ok)
 }
 
-// checkNarrowed holds what was left of a box against what should be, and sees that it lies within it, with a gap that can be cut out.
+// checkNarrowed holds what relations have left of a box against what they should.
 func checkNarrowed(t *testing.T, what string, width int, g impl.Graph, b impl.Box, got narrowed, rels ...impl.GraphRel) {
 	t.Helper()
 	box, found, ok := revisedBy(width, g, b, rels...)
-	want := narrowed{box, toldBy(width, box, found), ok}
+	checkWhatIsLeft(t, what, width, g, b, got, narrowed{box, toldBy(width, box, found), ok})
+}
+
+// checkWhatIsLeft holds what was left of a box against what should be, and sees that it lies within it, with a gap that can be cut out.
+func checkWhatIsLeft(t *testing.T, what string, width int, g impl.Graph, b impl.Box, got narrowed, want narrowed) {
+	t.Helper()
 	if got.ok != want.ok || !sameBox(got.box, want.box) || got.gap != want.gap {
 		t.Errorf("%d: %s of %q over %s: %s, not %s", width, what, textOfGraph(g), boxText(width, b), got.text(width), want.text(width))
 	}

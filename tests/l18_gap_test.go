@@ -62,13 +62,14 @@ func TestGapsThatAreNotTold(t *testing.T) {
 // roundCase is a problem over variables x, y, z, u, v, w, a box, what all relations leave of it, and the gap that is told with it.
 type roundCase struct{ lines, box, left, gap string }
 
-func checkRoundCases(t *testing.T, cases []roundCase) {
+// checkRoundCases wants of a check of all that is told of a box that it comes to what is left of it.
+func checkRoundCases(t *testing.T, check func(t *testing.T, width int, g impl.Graph, b impl.Box) narrowed, cases []roundCase) {
 	t.Helper()
 	for _, width := range bothWidths() {
 		for _, c := range cases {
 			g := graphWith(t, namesFor(c.box), c.lines)
 			b := boxAs(t, width, c.box)
-			got := checkOver(t, width, g, b)
+			got := check(t, width, g, b)
 			want := narrowed{boxAs(t, width, c.left), gapAs(t, width, c.gap), c.left != ""}
 			if got.ok != want.ok || !sameBox(got.box, want.box) || got.gap != want.gap {
 				t.Errorf("%d: %q over %s: %s, not %s", width, c.lines, c.box, got.text(width), want.text(width))
@@ -79,7 +80,7 @@ func checkRoundCases(t *testing.T, cases []roundCase) {
 
 // All relations, in order, each of what the one ahead left, once.
 func TestRound(t *testing.T) {
-	checkRoundCases(t, []roundCase{
+	checkRoundCases(t, checkOver, []roundCase{
 		{"x <= 3; x >= 2", "0..10", "2..3", ""}, {"x <= 3; x >= 2", "4..10", "", ""}, {"x <= 3; x >= 4", "0..10", "", ""}, {"x >= 2; x <= 1; x = 7", "0..10", "", ""}, {"x = x", "0..10", "0..10", ""},
 		{"x <= y; y <= 3", "0..10 0..10", "0..10 0..3", ""}, {"y <= 3; x <= y", "0..10 0..10", "0..3 0..3", ""}, {"x <= y; y <= z; z <= 3", "0..10 0..10 0..10", "0..10 0..10 0..3", ""}, {"z <= 3; y <= z; x <= y", "0..10 0..10 0..10", "0..3 0..3 0..3", ""},
 		// Each relation of a kind of its own.
@@ -93,7 +94,7 @@ func TestRound(t *testing.T) {
 
 // The gap is the first that was found and that the box in the end still has.
 func TestGapsOfRounds(t *testing.T) {
-	checkRoundCases(t, []roundCase{
+	checkRoundCases(t, checkOver, []roundCase{
 		{"x * y = 1", "-5..7 -1..1", "-5..7 -1..1", "0: -1..1"}, {"x * y = 1; z * u = 2", "-5..7 -1..1 -3..3 -1..1", "-5..7 -1..1 -3..3 -1..1", "0: -1..1"}, {"z * u = 2; x * y = 1", "-5..7 -1..1 -3..3 -1..1", "-5..7 -1..1 -3..3 -1..1", "2: -2..2"},
 		// The earlier one is gone in the end, as a relation between, behind, or its own takes it away.
 		{"x * y = 1; x >= 1; z * u = 2", "-5..7 -1..1 -3..3 -1..1", "1..7 -1..1 -3..3 -1..1", "2: -2..2"}, {"x * y = 1; z * u = 2; x >= 1", "-5..7 -1..1 -3..3 -1..1", "1..7 -1..1 -3..3 -1..1", "2: -2..2"}, {"x * y = 1; z * u = 2; x >= 1; z <= 0", "-5..7 -1..1 -3..3 -1..1", "1..7 -1..1 -3..0 -1..1", ""}, {"min(-x, x * y) >= 1; z * u = 2", "-5..7 -1..1 -3..3 -1..1", "-5..-1 -1..1 -3..3 -1..1", "2: -2..2"},

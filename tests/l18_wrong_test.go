@@ -153,25 +153,8 @@ func TestHullOfWrongGraphs(t *testing.T) {
 		}
 		base := graphWith(t, "x y", "x * y = 7; -x <= y; sqrt(y) = 2")
 		b := boxAs(t, width, "1..9 2..8")
-		for _, count := range []int{0, 13, 100} {
-			g := copiedGraph(base)
-			g.Rels = slices.Repeat(base.Rels[:1], count)
+		for _, g := range madeWrong(base) {
 			checkNothingOver(t, width, g, b)
-		}
-		for at := range base.Nodes {
-			for _, node := range []impl.GraphNode{{}, {Kind: impl.TermCall, N: 1, Text: "f"}, {Kind: impl.TermNeg, A: at}, {Kind: impl.TermNeg, A: at + 1}, {Kind: impl.TermNeg, A: math.MaxInt}, {Kind: impl.TermAdd, A: -1}, {Kind: impl.TermAdd, B: math.MinInt}, {Kind: impl.TermName, N: 7}, {Kind: impl.TermName, N: -1}, {Kind: impl.TermNumber}, {Kind: impl.TermNumber, Text: "x"}, {Kind: impl.TermPow, N: 9}, {Kind: impl.TermPow, N: -1}, {Kind: 14}, {Kind: math.MaxInt}, {Kind: math.MinInt}} {
-				g := copiedGraph(base)
-				g.Nodes[at] = node
-				checkNothingOver(t, width, g, b)
-			}
-			checkNothingOver(t, width, withNodes(base, base.Nodes[at]), b)
-		}
-		for at := range base.Rels {
-			for _, rel := range []impl.GraphRel{{}, {Kind: 4}, {Kind: 1, Left: -1}, {Kind: 1, Right: len(base.Nodes)}, {Kind: -1}, {Kind: 1, Left: math.MaxInt}, {Kind: 2, Right: math.MinInt}} {
-				g := copiedGraph(base)
-				g.Rels[at] = rel
-				checkNothingOver(t, width, g, b)
-			}
 		}
 	}
 }
@@ -179,23 +162,11 @@ func TestHullOfWrongGraphs(t *testing.T) {
 func TestHullOfManyWrongGraphs(t *testing.T) {
 	t.Parallel()
 	s := spread{262}
-	wrong, good := 0, 0
-	for at := range 800 {
-		g := changedGraph(&s, onlyKinds(&s, 1+at%6, 8, allKinds()...))
-		for _, width := range bothWidths() {
-			b := someBoxOf(&s, width, max(0, min(g.Vars, 7)))
-			if at%5 == 0 {
-				b = someBoxOf(&s, width, int(s.next()%8))
-			}
-			if belongTogether(width, g, b) {
-				good++
-				checkOver(t, width, g, b)
-			} else {
-				wrong++
-				checkNothingOver(t, width, g, b)
-			}
-		}
-	}
+	vars := 0
+	good, wrong := checkChanged(t, &s, 800, func() impl.Graph {
+		vars++
+		return onlyKinds(&s, 1+vars%6, 8, allKinds()...)
+	}, checkOver, checkNothingOver)
 	if wrong < 600 || good < 200 {
 		t.Errorf("only %d wrong ones, %d good ones", wrong, good)
 	}
