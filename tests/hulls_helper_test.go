@@ -395,7 +395,7 @@ func checkOver(t *testing.T, width int, g impl.Graph, b impl.Box) narrowed {
 	return checkRound(t, width, g, b)
 }
 
-// boundsAs are the floats next to what a word says: a number or a fraction, -inf or inf; or a number and, behind ' or ", the next float above or below that.
+// boundsAs are the floats next to what a word says: a number or a fraction, -inf or inf, or @ ahead of an order number; or a number and, behind ' or ", the next float above or below that.
 func boundsAs(t *testing.T, width int, word string) impl.Pair {
 	t.Helper()
 	top := topOf(width)
@@ -404,6 +404,10 @@ func boundsAs(t *testing.T, width int, word string) impl.Pair {
 		return impl.Pair{Lo: -top, Hi: -top}
 	case "inf":
 		return impl.Pair{Lo: top, Hi: top}
+	}
+	if ord, isOrd := strings.CutPrefix(word, "@"); isOrd {
+		at, _ := strconv.Atoi(ord)
+		return impl.Pair{Lo: at, Hi: at}
 	}
 	steps := strings.Count(word, "'") - strings.Count(word, "\"")
 	around := besides(width, ratsOf(t, strings.Trim(word, "'\""))[0])
